@@ -1,0 +1,1 @@
+"""What's shown, and read back. The calls are in shownback.desk."""

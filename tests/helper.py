@@ -1,0 +1,80 @@
+"""What the tests share: the calls made with care, and a second telling of blocks and dots to hold them against."""
+
+import contextlib
+import copy
+import io
+import random
+
+HALF = b"\xe2\x96\x80"
+END = b"\x1b[0m\n"
+OVER = 2 ** 64 - 1
+TOO_SMALL_OR_GREAT = [(0, 1), (1, 0), (0, 0), (1025, 1), (1, 1025), (331, 198), (257, 256), (1024, 65), (65, 1024)]
+
+
+def called(call, *handed):
+    """The answer of a call that is made twice: both alike, what was handed in as it was, nothing printed."""
+    before = copy.deepcopy(handed)
+    shown = io.StringIO()
+    with contextlib.redirect_stdout(shown), contextlib.redirect_stderr(shown):
+        first = call(*handed)
+        kept = list(first)
+        second = call(*handed)
+    assert first == second == kept, "a second call answers otherwise"
+    assert handed == before, "what was handed in was changed"
+    assert shown.getvalue() == "", "something was printed"
+    assert isinstance(first, list) and all(type(number) is int for number in first), "not a list of whole numbers"
+    return first
+
+
+def text_of(answer):
+    """The bytes of an answered text, whose number stands before them."""
+    assert answer[0] == len(answer) - 1, "the number of bytes is wrong"
+    return bytes(answer[1:])
+
+
+def upper(red, green, blue):
+    return b"\x1b[38;2;%d;%d;%dm" % (red, green, blue)
+
+
+def lower(red, green, blue):
+    return b"\x1b[48;2;%d;%d;%dm" % (red, green, blue)
+
+
+def some_numbers(seed, many, choices=None):
+    chance = random.Random(seed)
+    if choices:
+        return [chance.choice(choices) for _ in range(many)]
+    return [chance.randrange(65536) for _ in range(many)]
+
+
+def second_blocks(wide, high, channels, ground, numbers):
+    """The text of blocks, told from DOC.md a second time and in another way: cell by cell, looking back."""
+    def colours(x, y):
+        if y >= high:
+            return tuple(ground)
+        point = [number >> 8 for number in numbers[(y * wide + x) * channels:(y * wide + x + 1) * channels]]
+        shades = {1: (0, 0, 0), 2: (0, 0, 0), 3: (0, 1, 2), 4: (0, 1, 2)}[channels]
+        cover = point[-1] if channels in (2, 4) else 255
+        return tuple((point[s] * cover + g * (255 - cover) + 127) // 255 for s, g in zip(shades, ground))
+
+    text = b""
+    for y in range(0, high, 2):
+        for x in range(wide):
+            for tell, row in ((upper, y), (lower, y + 1)):
+                if x == 0 or colours(x, row) != colours(x - 1, row):
+                    text += tell(*colours(x, row))
+            text += HALF
+        text += END
+    return text
+
+
+def second_dots(wide, high, turned, numbers):
+    """The text of dots, told from DOC.md a second time: by the signs that Unicode has for them."""
+    table = [[0, 8, 2, 10], [12, 4, 14, 6], [3, 11, 1, 9], [15, 7, 13, 5]]
+    weights = {(0, 0): 1, (0, 1): 2, (0, 2): 4, (0, 3): 64, (1, 0): 8, (1, 1): 16, (1, 2): 32, (1, 3): 128}
+    sums = [[0] * -(-wide // 2) for _ in range(-(-high // 4))]
+    for place, number in enumerate(numbers):
+        y, x = divmod(place, wide)
+        if (number >= 4096 * table[y % 4][x % 4] + 2048) ^ bool(turned):
+            sums[y // 4][x // 2] += weights[x % 2, y % 4]
+    return "".join("".join(chr(0x2800 + s) for s in line) + "\n" for line in sums).encode()
