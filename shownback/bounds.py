@@ -3,19 +3,23 @@
 MOST_BYTES = 2097152
 MOST_SIDE = 1024
 MOST_POINTS = 65536
+MOST_RATE = 1000000
+MOST_SAMPLES = 65536
+MOST_COLUMNS = 512
+MOST_LINES = 64
 
 
-def all_within(numbers, most):
-    """Whether each of the numbers is from 0 to most."""
+def all_within(numbers, least, most):
+    """Whether each of the numbers is from least to most."""
     for number in numbers:
-        if not 0 <= number <= most:
+        if not least <= number <= most:
             return False
     return True
 
 
 def is_text(given):
     """Whether these are bytes, and no more of them than may be handed over."""
-    return len(given) <= MOST_BYTES and all_within(given, 255)
+    return len(given) <= MOST_BYTES and all_within(given, 0, 255)
 
 
 def is_size(wide, high):
@@ -27,4 +31,16 @@ def is_sheet(wide, high, channels, numbers):
     """Whether these make a sheet."""
     if not is_size(wide, high) or not 1 <= channels <= 4:
         return False
-    return len(numbers) == wide * high * channels and all_within(numbers, 65535)
+    return len(numbers) == wide * high * channels and all_within(numbers, 0, 65535)
+
+
+def is_row(rate, samples):
+    """Whether these make a row."""
+    if not 1 <= rate <= MOST_RATE or not 1 <= len(samples) <= MOST_SAMPLES:
+        return False
+    return all_within(samples, -32768, 32767)
+
+
+def is_room_for_bars(columns, lines):
+    """Whether bars may stand in so many columns and lines."""
+    return 1 <= columns <= MOST_COLUMNS and 1 <= lines <= MOST_LINES

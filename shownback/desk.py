@@ -1,32 +1,55 @@
 """The calls. Each answers a list of whole numbers: a number below 0 alone is a refusal."""
 
 from shownback.answers import NO_SUCH_TEXT, OUT_OF_RANGE, NoSuchText, counted
-from shownback.bounds import all_within, is_sheet, is_text
-from shownback.dotted import tell_dots
+from shownback.barred import read_bars, tell_bars
+from shownback.bounds import all_within, is_room_for_bars, is_row, is_sheet, is_text
+from shownback.dotted import read_dots, tell_dots
 from shownback.halves import read_blocks, tell_blocks
+
+
+def read_back(given, read):
+    """What a text tells, which read reads."""
+    if not is_text(given):
+        return [OUT_OF_RANGE]
+    try:
+        told = read(given)
+    except NoSuchText:
+        return [NO_SUCH_TEXT]
+    return [0] + told
 
 
 def blocks(wide, high, channels, red, green, blue, numbers):
     """A sheet on a ground, as a text of blocks."""
     ground = [red, green, blue]
-    if not is_sheet(wide, high, channels, numbers) or not all_within(ground, 255):
+    if not is_sheet(wide, high, channels, numbers) or not all_within(ground, 0, 255):
         return [OUT_OF_RANGE]
     return counted(tell_blocks(wide, high, channels, ground, numbers))
 
 
 def unblocks(given):
     """The sheet of three channels that a text of blocks shows."""
-    if not is_text(given):
-        return [OUT_OF_RANGE]
-    try:
-        told = read_blocks(given)
-    except NoSuchText:
-        return [NO_SUCH_TEXT]
-    return [0] + told
+    return read_back(given, read_blocks)
 
 
 def dots(wide, high, channels, turned, numbers):
     """A sheet of one channel, as a text of dots."""
-    if channels != 1 or not all_within([turned], 1) or not is_sheet(wide, high, channels, numbers):
+    if channels != 1 or not 0 <= turned <= 1 or not is_sheet(wide, high, channels, numbers):
         return [OUT_OF_RANGE]
     return counted(tell_dots(wide, turned, numbers))
+
+
+def undots(given):
+    """The points that a text of dots shows: how many columns and lines, then 1 or 0 for each."""
+    return read_back(given, read_dots)
+
+
+def bars(rate, columns, lines, samples):
+    """A row, as a text of bars."""
+    if not is_row(rate, samples) or not is_room_for_bars(columns, lines) or columns > len(samples):
+        return [OUT_OF_RANGE]
+    return counted(tell_bars(columns, lines, samples))
+
+
+def unbars(given):
+    """How many columns and lines a text of bars has, then how high the columns are."""
+    return read_back(given, read_bars)

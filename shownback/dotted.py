@@ -1,8 +1,11 @@
 """Sheets of one channel in dots: a cell shows eight points, two wide and four high."""
 
+from shownback.answers import NoSuchText
+from shownback.bounds import is_size
+from shownback.reading import LINE_FEED, read_lines
+
 STEPS = ((0, 8, 2, 10), (12, 4, 14, 6), (3, 11, 1, 9), (15, 7, 13, 5))
 WORTHS = ((1, 8), (2, 16), (4, 32), (64, 128))
-LINE_FEED = 10
 
 
 def is_on(x, y, number, turned):
@@ -41,3 +44,25 @@ def tell_dots(wide, turned, numbers):
             text.extend([0xE2, 0xA0 + total // 64, 0x80 + total % 64])
         text.append(LINE_FEED)
     return text
+
+
+def read_cell(reader):
+    """What the points that are on have together in the next cell."""
+    reader.byte(0xE2, 0xE2)
+    upper = reader.byte(0xA0, 0xA3) - 0xA0
+    return upper * 64 + reader.byte(0x80, 0xBF) - 0x80
+
+
+def read_dots(text):
+    """How many columns and lines of points a text of dots shows, and for each point 1 if it is on, else 0."""
+    lines = read_lines(text, read_cell)
+    wide = 2 * len(lines[0])
+    high = 4 * len(lines)
+    if not is_size(wide, high):
+        raise NoSuchText()
+    told = [wide, high]
+    for line in lines:
+        for pair in WORTHS:
+            for total in line:
+                told.extend([1 if total & worth == worth else 0 for worth in pair])
+    return told

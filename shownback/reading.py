@@ -2,6 +2,9 @@
 
 from shownback.answers import NoSuchText
 
+LINE_FEED = 10
+LINE_END = (LINE_FEED,)
+
 
 def bytes_of(words):
     """The bytes of words that are all ASCII."""
@@ -32,6 +35,13 @@ class Reader:
         if not self.takes(wanted):
             raise NoSuchText()
 
+    def byte(self, least, most):
+        """Go past a byte, which must be from least to most, and give it back."""
+        if self.ended() or not least <= self.text[self.at] <= most:
+            raise NoSuchText()
+        self.at += 1
+        return self.text[self.at - 1]
+
     def number(self, most):
         """Go past a number from 0 to most, in decimal without zeros before, and give it back."""
         start = self.at
@@ -43,3 +53,17 @@ class Reader:
         if value > most or self.text[start:self.at] != bytes_of(str(value)):
             raise NoSuchText()
         return value
+
+
+def read_lines(text, read_cell):
+    """The lines of cells of a text, one at least and all of one width; read_cell goes past a cell and tells it."""
+    reader = Reader(text)
+    lines = []
+    while lines == [] or not reader.ended():
+        line = []
+        while not reader.takes(LINE_END):
+            line.append(read_cell(reader))
+        lines.append(line)
+        if len(line) != len(lines[0]):
+            raise NoSuchText()
+    return lines

@@ -1,4 +1,4 @@
-"""What the tests share: the calls made with care, and a second telling of blocks and dots to hold them against."""
+"""What the tests share: the calls made with care, and a second telling of each text to hold them against."""
 
 import contextlib
 import copy
@@ -78,3 +78,36 @@ def second_dots(wide, high, turned, numbers):
         if (number >= 4096 * table[y % 4][x % 4] + 2048) ^ bool(turned):
             sums[y // 4][x // 2] += weights[x % 2, y % 4]
     return "".join("".join(chr(0x2800 + s) for s in line) + "\n" for line in sums).encode()
+
+
+def some_samples(seed, many, most=32767):
+    chance = random.Random(seed)
+    return [chance.randrange(-most - 1, most + 1) for _ in range(many)]
+
+
+def second_bars(columns, lines, samples):
+    """The text of bars, told from DOC.md a second time: column by column, from below, then turned over."""
+    starts = [column * len(samples) // columns for column in range(columns)]
+    sizes = [0] * columns
+    column = 0
+    for place, sample in enumerate(samples):
+        if column + 1 < columns and place == starts[column + 1]:
+            column += 1
+        sizes[column] = max(sizes[column], sample, -sample)
+    stacks = []
+    for size in sizes:
+        eighths = (size * 8 * lines + 16384) >> 15
+        full, part = divmod(eighths, 8)
+        stack = "\u2588" * full + (" " + "\u2581\u2582\u2583\u2584\u2585\u2586\u2587")[part] * (part > 0)
+        stacks.append(stack.ljust(lines))
+    rows = ["".join(stack[line] for stack in stacks) for line in range(lines)]
+    return "".join(row + "\n" for row in reversed(rows)).encode()
+
+
+def stacked(heights, lines):
+    """The text of bars of these heights in so many lines."""
+    def cell(eighths):
+        return " " if eighths <= 0 else chr(0x2580 + min(eighths, 8))
+
+    rows = ["".join(cell(height - 8 * below) for height in heights) for below in reversed(range(lines))]
+    return "".join(row + "\n" for row in rows).encode()

@@ -16,6 +16,9 @@ CALLS = {
     "blocks": ["wide", "high", "channels", "red", "green", "blue", "numbers"],
     "unblocks": ["given"],
     "dots": ["wide", "high", "channels", "turned", "numbers"],
+    "undots": ["given"],
+    "bars": ["rate", "columns", "lines", "samples"],
+    "unbars": ["given"],
 }
 OWN_NAMES = """len range enumerate zip min max sum abs sorted reversed int str bool list tuple dict set frozenset
     isinstance ord repr any all divmod Exception ValueError TypeError KeyError IndexError LookupError
@@ -51,6 +54,9 @@ class Interface(unittest.TestCase):
         self.assertEqual(desk.blocks(wide=1, high=1, channels=1, red=0, green=0, blue=0, numbers=[65536]), [-8])
         self.assertEqual(desk.unblocks(given=[]), [-4])
         self.assertEqual(desk.dots(wide=1, high=1, channels=1, turned=0, numbers=[0]), [4, 226, 160, 128, 10])
+        self.assertEqual(desk.undots(given=[]), [-4])
+        self.assertEqual(desk.bars(rate=1, columns=1, lines=1, samples=[0]), [2, 32, 10])
+        self.assertEqual(desk.unbars(given=[]), [-4])
 
     def test_nothing_but_the_package_is_imported(self):
         script = ("import sys; before = set(sys.modules); from shownback import desk; desk.unblocks([27]); "
