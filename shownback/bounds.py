@@ -1,12 +1,18 @@
 """What is in its range, and as many as it should be."""
 
+from shownback.doubles import is_finite
+
 MOST_BYTES = 2097152
+MOST_BYTES_OF_A_NUMBER = 64
 MOST_SIDE = 1024
 MOST_POINTS = 65536
 MOST_RATE = 1000000
 MOST_SAMPLES = 65536
 MOST_COLUMNS = 512
 MOST_LINES = 64
+MOST_NAMES = 16
+MOST_NAME_BYTES = 32
+MOST_TABLE_LINES = 256
 
 
 def all_within(numbers, least, most):
@@ -17,9 +23,9 @@ def all_within(numbers, least, most):
     return True
 
 
-def is_text(given):
+def is_text(given, most=MOST_BYTES):
     """Whether these are bytes, and no more of them than may be handed over."""
-    return len(given) <= MOST_BYTES and all_within(given, 0, 255)
+    return len(given) <= most and all_within(given, 0, 255)
 
 
 def is_size(wide, high):
@@ -44,3 +50,26 @@ def is_row(rate, samples):
 def is_room_for_bars(columns, lines):
     """Whether bars may stand in so many columns and lines."""
     return 1 <= columns <= MOST_COLUMNS and 1 <= lines <= MOST_LINES
+
+
+def are_names(names):
+    """Whether a table may have these names."""
+    if not 1 <= len(names) <= MOST_NAMES:
+        return False
+    for name in names:
+        if not 1 <= len(name) <= MOST_NAME_BYTES or not all_within(name, 33, 126):
+            return False
+    return True
+
+
+def are_table_lines(columns, lines):
+    """Whether these are lines of numbers for a table of so many columns."""
+    if len(lines) > MOST_TABLE_LINES:
+        return False
+    for line in lines:
+        if len(line) != columns:
+            return False
+        for bits in line:
+            if not is_finite(bits):
+                return False
+    return True

@@ -1,10 +1,14 @@
 """The calls. Each answers a list of whole numbers: a number below 0 alone is a refusal."""
 
-from shownback.answers import NO_SUCH_TEXT, OUT_OF_RANGE, NoSuchText, counted
+from shownback.answers import NO_SUCH_TEXT, OUT_OF_RANGE, TOO_GREAT, NoSuchText, TooGreat, counted
 from shownback.barred import read_bars, tell_bars
-from shownback.bounds import all_within, is_room_for_bars, is_row, is_sheet, is_text
+from shownback.bounds import MOST_BYTES_OF_A_NUMBER
+from shownback.bounds import all_within, are_names, are_table_lines, is_room_for_bars, is_row, is_sheet, is_text
+from shownback.decimals import read_decimal, tell_decimal
 from shownback.dotted import read_dots, tell_dots
+from shownback.doubles import is_finite
 from shownback.halves import read_blocks, tell_blocks
+from shownback.tabled import tell_table
 
 
 def read_back(given, read):
@@ -53,3 +57,32 @@ def bars(rate, columns, lines, samples):
 def unbars(given):
     """How many columns and lines a text of bars has, then how high the columns are."""
     return read_back(given, read_bars)
+
+
+def decimal(number):
+    """A number, as its shortest decimal."""
+    if not is_finite(number):
+        return [OUT_OF_RANGE]
+    return counted(tell_decimal(number))
+
+
+def undecimal(given):
+    """The number nearest to a decimal."""
+    if not is_text(given, MOST_BYTES_OF_A_NUMBER):
+        return [OUT_OF_RANGE]
+    try:
+        number = read_decimal(given)
+    except NoSuchText:
+        return [NO_SUCH_TEXT]
+    except TooGreat:
+        return [TOO_GREAT]
+    return [0, number]
+
+
+def table(n, names_and_lines):
+    """Lines of numbers under n names, as a text."""
+    names = names_and_lines[:n]
+    lines = names_and_lines[n:]
+    if len(names) != n or not are_names(names) or not are_table_lines(n, lines):
+        return [OUT_OF_RANGE]
+    return counted(tell_table(names, lines))

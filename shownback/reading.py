@@ -42,6 +42,14 @@ class Reader:
         self.at += 1
         return self.text[self.at - 1]
 
+    def digits(self, most):
+        """Go past digits, one at least and no more than most, and give back what each is worth."""
+        found = [self.byte(48, 57) - 48]
+        while len(found) < most and not self.ended() and 48 <= self.text[self.at] <= 57:
+            found.append(self.text[self.at] - 48)
+            self.at += 1
+        return found
+
     def number(self, most):
         """Go past a number from 0 to most, in decimal without zeros before, and give it back."""
         start = self.at

@@ -2,8 +2,12 @@
 
 import contextlib
 import copy
+import decimal
+import fractions
 import io
+import math
 import random
+import struct
 
 HALF = b"\xe2\x96\x80"
 END = b"\x1b[0m\n"
@@ -111,3 +115,80 @@ def stacked(heights, lines):
 
     rows = ["".join(cell(height - 8 * below) for height in heights) for below in reversed(range(lines))]
     return "".join(row + "\n" for row in rows).encode()
+
+
+def bits_of(number):
+    """The 64 bits of a float, as one whole number."""
+    return struct.unpack("<Q", struct.pack("<d", number))[0]
+
+
+def float_of(bits):
+    return struct.unpack("<d", struct.pack("<Q", bits))[0]
+
+
+def finite_bits(chance):
+    """Bits of a drawn finite number: any bits, or near a power of two, or few digits, or a small whole number."""
+    sort = chance.randrange(5)
+    if sort == 0:
+        bits = chance.getrandbits(64)
+    elif sort == 1:
+        bits = (chance.randrange(2047) << 52) + chance.choice([-2, -1, 0, 1, 2])
+    elif sort == 2:
+        bits = bits_of(float(f"{chance.choice(['', '-'])}{chance.randrange(1, 10000)}e{chance.randrange(-327, 304)}"))
+    elif sort == 3:
+        bits = bits_of(float(chance.randrange(-10 ** chance.randrange(1, 20), 10 ** 17)))
+    else:
+        bits = bits_of(chance.randrange(-10 ** 9, 10 ** 9) / 10 ** chance.randrange(0, 14))
+    return bits if 0 <= bits < 2 ** 64 and bits >> 52 & 2047 != 2047 else finite_bits(chance)
+
+
+def in_form(below, digits, places):
+    """A decimal in its form, of digits of which so many stand before the point."""
+    exponent = places - len(digits)
+    if 0 <= exponent and places <= 17:
+        words = digits + "0" * exponent
+    elif -6 < places <= 0:
+        words = "0." + "0" * -places + digits
+    elif 0 < places < len(digits):
+        words = digits[:places] + "." + digits[places:]
+    else:
+        words = digits[0] + ("." + digits[1:] if len(digits) > 1 else "") + "e" + str(places - 1)
+    return ("-" if below else "") + words
+
+
+def second_decimal(bits):
+    """The text of a number, from Python's own shortest digits."""
+    number = float_of(bits)
+    if number == 0:
+        return "0"
+    told = decimal.Decimal(repr(abs(number))).normalize().as_tuple()
+    digits = "".join(map(str, told.digits))
+    return in_form(number < 0, digits, len(digits) + told.exponent)
+
+
+def third_decimal(bits):
+    """The text of a number above 0, by trying all decimals of one digit, of two and so on, with whole ratios."""
+    number = fractions.Fraction(float_of(bits))
+    whole_after, whole_before = float_of(bits + 1), float_of(bits - 1)
+    # Past the greatest number the next one would be as far as the one before.
+    after = fractions.Fraction(whole_after) if whole_after < math.inf else 2 * number - fractions.Fraction(whole_before)
+    low, high = (fractions.Fraction(whole_before) + number) / 2, (number + after) / 2
+    places = next(n for n in range(-330, 330) if number < fractions.Fraction(10) ** n)
+    for many in range(1, 18):
+        one = fractions.Fraction(10) ** (places - many)
+        fits = [d for d in range(math.ceil(low / one), math.floor(high / one) + 1)
+                if bits % 2 == 0 or low < d * one < high]
+        if fits:
+            best = min(fits, key=lambda d: (abs(d * one - number), d % 2))
+            digits = str(best)
+            return in_form(False, digits.rstrip("0"), len(digits) + places - many)
+    raise AssertionError("no decimal was found")
+
+
+def second_table(names, lines):
+    """The text of a table, told from DOC.md a second time: row by row, with Python's own rjust."""
+    rows = [names] + [[second_decimal(bits) for bits in line] for line in lines]
+    rooms = [max(len(row[k]) for row in rows) for k in range(len(names))]
+    told = ["  ".join(word.rjust(room) for word, room in zip(row, rooms)) for row in rows]
+    told.insert(1, "-" * (sum(rooms) + 2 * len(names) - 2))
+    return "".join(row + "\n" for row in told).encode()

@@ -19,6 +19,9 @@ CALLS = {
     "undots": ["given"],
     "bars": ["rate", "columns", "lines", "samples"],
     "unbars": ["given"],
+    "decimal": ["number"],
+    "undecimal": ["given"],
+    "table": ["n", "names_and_lines"],
 }
 OWN_NAMES = """len range enumerate zip min max sum abs sorted reversed int str bool list tuple dict set frozenset
     isinstance ord repr any all divmod Exception ValueError TypeError KeyError IndexError LookupError
@@ -57,6 +60,9 @@ class Interface(unittest.TestCase):
         self.assertEqual(desk.undots(given=[]), [-4])
         self.assertEqual(desk.bars(rate=1, columns=1, lines=1, samples=[0]), [2, 32, 10])
         self.assertEqual(desk.unbars(given=[]), [-4])
+        self.assertEqual(desk.decimal(number=0), [1, 48])
+        self.assertEqual(desk.undecimal(given=[48]), [0, 0])
+        self.assertEqual(desk.table(n=1, names_and_lines=[[97]]), [4, 97, 10, 45, 10])
 
     def test_nothing_but_the_package_is_imported(self):
         script = ("import sys; before = set(sys.modules); from shownback import desk; desk.unblocks([27]); "
