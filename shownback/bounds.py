@@ -4,6 +4,7 @@ from shownback.doubles import is_finite
 
 MOST_BYTES = 2097152
 MOST_BYTES_OF_A_NUMBER = 64
+MOST_BYTES_OF_A_TABLE = 65536
 MOST_SIDE = 1024
 MOST_POINTS = 65536
 MOST_RATE = 1000000
@@ -33,9 +34,14 @@ def is_size(wide, high):
     return 1 <= wide <= MOST_SIDE and 1 <= high <= MOST_SIDE and wide * high <= MOST_POINTS
 
 
+def is_shape(wide, high, channels):
+    """Whether a sheet may be so wide and so high and have so many channels."""
+    return is_size(wide, high) and 1 <= channels <= 4
+
+
 def is_sheet(wide, high, channels, numbers):
     """Whether these make a sheet."""
-    if not is_size(wide, high) or not 1 <= channels <= 4:
+    if not is_shape(wide, high, channels):
         return False
     return len(numbers) == wide * high * channels and all_within(numbers, 0, 65535)
 

@@ -1,24 +1,39 @@
 """The calls. Each answers a list of whole numbers: a number below 0 alone is a refusal."""
 
-from shownback.answers import NO_SUCH_TEXT, OUT_OF_RANGE, TOO_GREAT, NoSuchText, TooGreat, counted
+from shownback.answers import NO_SUCH_TEXT, OUT_OF_RANGE, TOO_GREAT, WRONG_PIECE
+from shownback.answers import NoSuchText, TooGreat, WrongPiece, counted
 from shownback.barred import read_bars, tell_bars
-from shownback.bounds import MOST_BYTES_OF_A_NUMBER
+from shownback.bounds import MOST_BYTES, MOST_BYTES_OF_A_NUMBER, MOST_BYTES_OF_A_TABLE
 from shownback.bounds import all_within, are_names, are_table_lines, is_room_for_bars, is_row, is_sheet, is_text
 from shownback.decimals import read_decimal, tell_decimal
 from shownback.dotted import read_dots, tell_dots
 from shownback.doubles import is_finite
 from shownback.halves import read_blocks, tell_blocks
-from shownback.tabled import tell_table
+from shownback.pieces import PieceReader
+from shownback.stills import read_still, tell_still
+from shownback.tabled import read_table, tell_table
 
 
-def read_back(given, read):
-    """What a text tells, which read reads."""
-    if not is_text(given):
+def read_back(given, read, most=MOST_BYTES):
+    """What a text of so many bytes at most tells, which read reads."""
+    if not is_text(given, most):
         return [OUT_OF_RANGE]
     try:
         told = read(given)
     except NoSuchText:
         return [NO_SUCH_TEXT]
+    return [0] + told
+
+
+def read_file(given, read):
+    """What a file tells, which read reads piece by piece."""
+    if not is_text(given):
+        return [OUT_OF_RANGE]
+    reader = PieceReader(given)
+    try:
+        told = read(reader)
+    except WrongPiece:
+        return [WRONG_PIECE - reader.place]
     return [0] + told
 
 
@@ -86,3 +101,20 @@ def table(n, names_and_lines):
     if len(names) != n or not are_names(names) or not are_table_lines(n, lines):
         return [OUT_OF_RANGE]
     return counted(tell_table(names, lines))
+
+
+def untable(given):
+    """How many columns and lines a table has, then its names, each behind its length, then its numbers."""
+    return read_back(given, read_table, MOST_BYTES_OF_A_TABLE)
+
+
+def still(wide, high, channels, numbers):
+    """A sheet, as a file."""
+    if not is_sheet(wide, high, channels, numbers):
+        return [OUT_OF_RANGE]
+    return counted(tell_still(wide, high, channels, numbers))
+
+
+def unstill(given):
+    """The sheet in a file: wide, high, channels, then its numbers."""
+    return read_file(given, read_still)

@@ -5,6 +5,7 @@ import copy
 import decimal
 import fractions
 import io
+import itertools
 import math
 import random
 import struct
@@ -192,3 +193,153 @@ def second_table(names, lines):
     told = ["  ".join(word.rjust(room) for word, room in zip(row, rooms)) for row in rows]
     told.insert(1, "-" * (sum(rooms) + 2 * len(names) - 2))
     return "".join(row + "\n" for row in told).encode()
+
+
+def second_sum(data):
+    """CRC-32C a second time: bit by bit with the highest power foremost, turned round at the end."""
+    rest = 0xFFFFFFFF
+    for byte in data:
+        for bit in range(8):
+            out = (rest >> 31) ^ (byte >> bit & 1)
+            rest = (rest << 1 & 0xFFFFFFFF) ^ (0x1EDC6F41 if out else 0)
+    return int(f"{rest:032b}"[::-1], 2) ^ 0xFFFFFFFF
+
+
+def piece(letters, content=b""):
+    """The bytes of a piece, with its length and its sum."""
+    told = letters + struct.pack("<I", len(content)) + bytes(content)
+    return told + struct.pack("<I", second_sum(told))
+
+
+DONE = piece(b"DONE")
+
+
+def cut(data):
+    """The pieces of a file, each its letters and its bytes, and None for what is no whole piece."""
+    pieces = []
+    while data:
+        if len(data) < 12:
+            return pieces + [None]
+        behind = 8 + struct.unpack("<I", data[4:8])[0]
+        if data[behind:behind + 4] != struct.pack("<I", second_sum(data[:behind])):
+            return pieces + [None]
+        pieces.append((data[:4], data[8:behind]))
+        data = data[behind + 4:]
+    return pieces
+
+
+def wrapped(number):
+    return (number % 65536) - (65536 if number % 65536 >= 32768 else 0)
+
+
+def second_kept(numbers):
+    """Numbers kept, told from DOC.md a second time: run by run."""
+    told = b""
+    folded = [2 * number if number >= 0 else -2 * number - 1 for number in numbers]
+    for z, same in itertools.groupby(folded):
+        many = len(list(same))
+        if z == 0:
+            one = b"\x3f" * (many // 64) + (bytes([many % 64 - 1]) if many % 64 else b"")
+        elif z < 65:
+            one = bytes([63 + z]) * many
+        elif z < 16449:
+            one = struct.pack(">H", z - 65 + 128 * 256) * many
+        else:
+            one = b"\xc0" + struct.pack("<H", z)
+            one *= many
+        told += one
+    return told
+
+
+def second_guesses(which, line, above, channels):
+    """What the numbers of a line are guessed to be, looked up one by one."""
+    told = []
+    for k, _ in enumerate(line):
+        a = line[k - channels] if k >= channels else 0
+        b = above[k]
+        c = above[k - channels] if k >= channels else 0
+        told.append([0, a, b, (a + b) // 2, sorted([a, b, a + b - c])[1]][which])
+    return told
+
+
+def second_line(line, above, channels, which=None):
+    """The bytes of a line, with its best guess or with another one."""
+    tried = [[wrapped(number - guess) for number, guess in zip(line, second_guesses(k, line, above, channels))]
+             for k in range(5)]
+    if which is None:
+        which = min(range(5), key=lambda k: (sum(map(abs, tried[k])), k))
+    return bytes([which]) + second_kept(tried[which])
+
+
+def second_lines(wide, channels, numbers, which=None):
+    """The bytes of each line of a sheet; which may tell the guess of each."""
+    many = wide * channels
+    rows = [numbers[start:start + many] for start in range(0, len(numbers), many)]
+    return [second_line(row, above, channels, which[y] if which else None)
+            for y, (row, above) in enumerate(zip(rows, [[0] * many] + rows))]
+
+
+def second_still(wide, high, channels, numbers, which=None):
+    """The file of a sheet, told from DOC.md a second time."""
+    told = piece(b"HEAD", struct.pack("<HHB", wide, high, channels))
+    for line in second_lines(wide, channels, numbers, which):
+        told += piece(b"LINE", line)
+    return told + DONE
+
+
+def read_kept_loosely(data, many):
+    """Numbers kept, read whatever way they are kept, and what's behind them; None if that can't be."""
+    numbers, at = [], 0
+    while len(numbers) < many:
+        left = data[at:at + 3]
+        size = 0 if not left else 1 if left[0] < 128 else 2 if left[0] < 192 else 3 if left[0] == 192 else 0
+        if not 0 < size <= len(left):
+            return None
+        at += size
+        if left[0] < 64:
+            numbers += [0] * (left[0] + 1)
+            continue
+        z = [left[0] - 63, 65 + (left[0] - 128) * 256 + left[-1 if size < 2 else 1],
+             struct.unpack("<H", left[1:])[0] if size == 3 else 0][size - 1]
+        numbers.append(z // 2 if z % 2 == 0 else -(z + 1) // 2)
+    # They are kept just as told if they come out the same.
+    if len(numbers) > many or second_kept(numbers) != data[:at]:
+        return None
+    return numbers, data[at:]
+
+
+def second_read_line(data, above, channels):
+    """A line as long as the one above, and what's behind it; None if that can't be."""
+    kept = read_kept_loosely(data[1:], len(above)) if data and data[0] < 5 else None
+    if kept is None:
+        return None
+    line = []
+    for off in kept[0]:
+        room = line + [0]
+        line.append((second_guesses(data[0], room, above, channels)[-1] + off) % 65536)
+    return line, kept[1]
+
+
+def is_size(wide, high):
+    return 1 <= wide <= 1024 and 1 <= high <= 1024 and wide * high <= 65536
+
+
+def second_unstill(data):
+    """The sheet of a file, read from DOC.md a second time: cut into pieces first."""
+    pieces = cut(data) + [None, None]
+    if pieces[0] is None or pieces[0][0] != b"HEAD" or len(pieces[0][1]) != 5:
+        return [-100]
+    wide, high, channels = struct.unpack("<HHB", pieces[0][1])
+    if not is_size(wide, high) or not 1 <= channels <= 4:
+        return [-100]
+    rows = [[0] * (wide * channels)]
+    for place in range(1, high + 1):
+        told = pieces[place] and pieces[place][0] == b"LINE" and second_read_line(pieces[place][1], rows[-1], channels)
+        if not told or told[1]:
+            return [-100 - place]
+        rows.append(told[0])
+    if pieces[high + 1] != (b"DONE", b""):
+        return [-101 - high]
+    if len(pieces) != high + 4:
+        return [-102 - high]
+    return [0, wide, high, channels] + sum(rows[1:], [])

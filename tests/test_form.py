@@ -22,6 +22,9 @@ CALLS = {
     "decimal": ["number"],
     "undecimal": ["given"],
     "table": ["n", "names_and_lines"],
+    "untable": ["given"],
+    "still": ["wide", "high", "channels", "numbers"],
+    "unstill": ["given"],
 }
 OWN_NAMES = """len range enumerate zip min max sum abs sorted reversed int str bool list tuple dict set frozenset
     isinstance ord repr any all divmod Exception ValueError TypeError KeyError IndexError LookupError
@@ -63,6 +66,9 @@ class Interface(unittest.TestCase):
         self.assertEqual(desk.decimal(number=0), [1, 48])
         self.assertEqual(desk.undecimal(given=[48]), [0, 0])
         self.assertEqual(desk.table(n=1, names_and_lines=[[97]]), [4, 97, 10, 45, 10])
+        self.assertEqual(desk.untable(given=[]), [-4])
+        self.assertEqual(desk.still(wide=1, high=1, channels=1, numbers=[0])[0], 43)
+        self.assertEqual(desk.unstill(given=[]), [-100])
 
     def test_nothing_but_the_package_is_imported(self):
         script = ("import sys; before = set(sys.modules); from shownback import desk; desk.unblocks([27]); "
@@ -122,6 +128,72 @@ class Form(unittest.TestCase):
             for node in nodes(path):
                 if isinstance(node, ast.Call) and isinstance(node.func, ast.Attribute):
                     self.assertIn(node.func.attr, set(METHODS) | own, f"{path.name}:{node.lineno}")
+
+    def test_the_top_of_a_file(self):
+        for path in sources():
+            bound = []
+            for node in ast.parse(path.read_text()).body:
+                where = f"{path.name}:{node.lineno}"
+                self.assertIsInstance(node, (ast.Expr, ast.ImportFrom, ast.Assign, ast.FunctionDef, ast.ClassDef), where)
+                if isinstance(node, ast.Assign):
+                    plain = (ast.Constant, ast.Tuple, ast.UnaryOp, ast.USub, ast.Name, ast.Load)
+                    self.assertTrue(all(isinstance(part, plain) for part in ast.walk(node.value)), where)
+                    bound.append(node.targets[0].id)
+                elif isinstance(node, ast.ImportFrom):
+                    bound += [alias.name for alias in node.names]
+                elif not isinstance(node, ast.Expr):
+                    bound.append(node.name)
+            self.assertEqual(sorted(bound), sorted(set(bound)), path.name)
+
+    def test_locals_are_not_called_like_imports_or_classes(self):
+        for path in sources():
+            tree = ast.parse(path.read_text())
+            taken = {alias.name for node in tree.body if isinstance(node, ast.ImportFrom) for alias in node.names}
+            taken |= {node.name for node in tree.body if isinstance(node, ast.ClassDef)}
+            for node in ast.walk(tree):
+                name = node.id if isinstance(node, ast.Name) and isinstance(node.ctx, ast.Store) else None
+                name = node.arg if isinstance(node, ast.arg) else name
+                self.assertNotIn(name, taken, f"{path.name}:{getattr(node, 'lineno', 0)}")
+
+    def test_every_import_is_used_and_drawn_from_where_it_is_defined(self):
+        for path in sources():
+            tree = ast.parse(path.read_text())
+            used = {node.id for node in ast.walk(tree) if isinstance(node, ast.Name)}
+            for node in tree.body:
+                if isinstance(node, ast.ImportFrom):
+                    other = ast.parse((PACKAGE / (node.module.split(".")[1] + ".py")).read_text())
+                    defined = {getattr(part, "name", None) for part in other.body}
+                    defined |= {part.targets[0].id for part in other.body if isinstance(part, ast.Assign)}
+                    for alias in node.names:
+                        self.assertTrue(alias.name in used and alias.name in defined and alias.asname is None,
+                                        f"{path.name}: {alias.name}")
+
+    def test_no_two_files_draw_from_one_another(self):
+        drawn = {path.stem: {node.module.split(".")[1] for node in nodes(path) if isinstance(node, ast.ImportFrom)}
+                 for path in sources()}
+        while drawn:
+            ready = [name for name, others in drawn.items() if not others & set(drawn)]
+            self.assertNotEqual(ready, [], drawn)
+            for name in ready:
+                del drawn[name]
+
+    def test_powers_have_written_exponents(self):
+        for path in sources():
+            for node in nodes(path):
+                if isinstance(node, ast.BinOp) and isinstance(node.op, ast.Pow):
+                    self.assertIsInstance(node.right, ast.Constant, f"{path.name}:{node.lineno}")
+
+    def test_own_methods_and_values(self):
+        methods, values = set(), set()
+        for path in sources():
+            for node in nodes(path):
+                if isinstance(node, ast.ClassDef):
+                    methods |= {part.name for part in node.body if isinstance(part, ast.FunctionDef)}
+                if isinstance(node, ast.Attribute) and isinstance(node.ctx, ast.Store):
+                    values.add(node.attr)
+        pythons = {name for kind in (str, int, list, dict, set, bytes) for name in dir(kind)}
+        self.assertEqual(methods & values, set())
+        self.assertEqual((methods - {"__init__"} | values) & pythons, set())
 
 
 if __name__ == "__main__":
