@@ -2,6 +2,7 @@
 
 OUT_OF_RANGE = -8
 TOO_GREAT = -7
+NO_SUCH_SHEET = -5
 NO_SUCH_TEXT = -4
 # Less the number of the first piece that is wrong.
 WRONG_PIECE = -100
@@ -9,6 +10,10 @@ WRONG_PIECE = -100
 
 class NoSuchText(Exception):
     """A text was to be read that nothing is told by."""
+
+
+class NoSuchSheet(Exception):
+    """A sheet was asked for that a film does not have."""
 
 
 class TooGreat(Exception):

@@ -7,6 +7,8 @@ MOST_BYTES_OF_A_NUMBER = 64
 MOST_BYTES_OF_A_TABLE = 65536
 MOST_SIDE = 1024
 MOST_POINTS = 65536
+MOST_SHEETS = 64
+MOST_NUMBERS_OF_A_FILM = 262144
 MOST_RATE = 1000000
 MOST_SAMPLES = 65536
 MOST_COLUMNS = 512
@@ -46,11 +48,34 @@ def is_sheet(wide, high, channels, numbers):
     return len(numbers) == wide * high * channels and all_within(numbers, 0, 65535)
 
 
+def is_film_shape(wide, high, channels, many):
+    """Whether a film may have so many sheets of that shape."""
+    if not is_shape(wide, high, channels) or not 1 <= many <= MOST_SHEETS:
+        return False
+    return wide * high * channels * many <= MOST_NUMBERS_OF_A_FILM
+
+
+def is_film(wide, high, channels, times, sheets):
+    """Whether these make a film; each of the times is a list that should have one number."""
+    if len(times) != len(sheets) or not is_film_shape(wide, high, channels, len(sheets)):
+        return False
+    for time in times:
+        if len(time) != 1 or not all_within(time, 0, 65535):
+            return False
+    for numbers in sheets:
+        if not is_sheet(wide, high, channels, numbers):
+            return False
+    return True
+
+
+def is_row_length(rate, many):
+    """Whether a row may have that rate and so many samples."""
+    return 1 <= rate <= MOST_RATE and 1 <= many <= MOST_SAMPLES
+
+
 def is_row(rate, samples):
     """Whether these make a row."""
-    if not 1 <= rate <= MOST_RATE or not 1 <= len(samples) <= MOST_SAMPLES:
-        return False
-    return all_within(samples, -32768, 32767)
+    return is_row_length(rate, len(samples)) and all_within(samples, -32768, 32767)
 
 
 def is_room_for_bars(columns, lines):

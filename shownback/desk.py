@@ -1,15 +1,18 @@
 """The calls. Each answers a list of whole numbers: a number below 0 alone is a refusal."""
 
-from shownback.answers import NO_SUCH_TEXT, OUT_OF_RANGE, TOO_GREAT, WRONG_PIECE
-from shownback.answers import NoSuchText, TooGreat, WrongPiece, counted
+from shownback.answers import NO_SUCH_SHEET, NO_SUCH_TEXT, OUT_OF_RANGE, TOO_GREAT, WRONG_PIECE
+from shownback.answers import NoSuchSheet, NoSuchText, TooGreat, WrongPiece, counted
 from shownback.barred import read_bars, tell_bars
 from shownback.bounds import MOST_BYTES, MOST_BYTES_OF_A_NUMBER, MOST_BYTES_OF_A_TABLE
-from shownback.bounds import all_within, are_names, are_table_lines, is_room_for_bars, is_row, is_sheet, is_text
+from shownback.bounds import all_within, are_names, are_table_lines
+from shownback.bounds import is_film, is_room_for_bars, is_row, is_sheet, is_text
 from shownback.decimals import read_decimal, tell_decimal
 from shownback.dotted import read_dots, tell_dots
 from shownback.doubles import is_finite
+from shownback.films import read_film, tell_film
 from shownback.halves import read_blocks, tell_blocks
 from shownback.pieces import PieceReader
+from shownback.sounds import tell_sound
 from shownback.stills import read_still, tell_still
 from shownback.tabled import read_table, tell_table
 
@@ -118,3 +121,30 @@ def still(wide, high, channels, numbers):
 def unstill(given):
     """The sheet in a file: wide, high, channels, then its numbers."""
     return read_file(given, read_still)
+
+
+def film(wide, high, channels, sheets):
+    """Sheets of one size, each with its time, as a file."""
+    times = sheets[0::2]
+    numbers = sheets[1::2]
+    if not is_film(wide, high, channels, times, numbers):
+        return [OUT_OF_RANGE]
+    return counted(tell_film(wide, high, channels, [time[0] for time in times], numbers))
+
+
+def unfilm(k, given):
+    """The k-th sheet of a film in a file: time, wide, high, channels, then its numbers."""
+    if k > 65535:
+        return [OUT_OF_RANGE]
+    try:
+        answer = read_file(given, lambda reader: read_film(reader, k))
+    except NoSuchSheet:
+        return [NO_SUCH_SHEET]
+    return answer
+
+
+def sound(rate, samples):
+    """A row, as a file."""
+    if not is_row(rate, samples):
+        return [OUT_OF_RANGE]
+    return counted(tell_sound(rate, samples))

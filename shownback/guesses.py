@@ -1,7 +1,7 @@
 """Lines of numbers, each told by how far it is from a guess out of the numbers told before it."""
 
 from shownback.answers import WrongPiece
-from shownback.kept import read_kept, signed, tell_kept
+from shownback.kept import read_kept, signed, tell_best
 
 GUESSES = 5
 
@@ -32,17 +32,9 @@ def off_by(which, line, above, channels):
     return [signed(line[k] - guess(which, before[k], above[k], corner[k])) for k in range(len(line))]
 
 
-def sum_of_sizes(numbers):
-    """The sizes of all the numbers together."""
-    return sum([abs(number) for number in numbers])
-
-
 def tell_line(line, above, channels):
     """The bytes of a line: its best guess, then its numbers kept."""
-    tried = [off_by(which, line, above, channels) for which in range(GUESSES)]
-    sizes = [sum_of_sizes(numbers) for numbers in tried]
-    best = sizes.index(min(sizes))
-    return [best] + tell_kept(tried[best])
+    return tell_best([off_by(which, line, above, channels) for which in range(GUESSES)])
 
 
 def tell_lines(length, channels, numbers):
@@ -68,3 +60,13 @@ def read_line(reader, above, channels):
     for k in range(len(above)):
         line.append((guess(which, line[k], above[k], corner[k]) + kept[k]) % 65536)
     return line[channels:]
+
+
+def read_lines(reader, length, many, channels):
+    """Go past so many lines of that length, one behind another, and give back the numbers of all."""
+    numbers = []
+    line = [0] * length
+    for y in range(many):
+        line = read_line(reader, line, channels)
+        numbers.extend(line)
+    return numbers

@@ -41,6 +41,13 @@ def tell_kept(numbers):
     return told
 
 
+def tell_best(tried):
+    """Of several lists the one with the least sum of sizes, or the first of these: which it is, then its bytes."""
+    sizes = [sum([abs(number) for number in numbers]) for numbers in tried]
+    best = sizes.index(min(sizes))
+    return [best] + tell_kept(tried[best])
+
+
 def read_folded(first, reader):
     """Go past what's behind the first byte of a number that is not 0, and give back the number, folded."""
     if first < 128:

@@ -343,3 +343,124 @@ def second_unstill(data):
     if len(pieces) != high + 4:
         return [-102 - high]
     return [0, wide, high, channels] + sum(rows[1:], [])
+
+
+def full_of(time, wide, channels, numbers, which=None):
+    """What stands in a piece FULL."""
+    return struct.pack("<H", time) + b"".join(second_lines(wide, channels, numbers, which))
+
+
+def part_of(time, wide, channels, numbers, before, rectangle=None, which=None):
+    """What stands in a piece PART, of the least rectangle or of another one."""
+    points = [(k // channels % wide, k // channels // wide) for k in range(len(numbers)) if numbers[k] != before[k]]
+    if rectangle is None:
+        rectangle = (0, 0, 0, 0)
+        if points:
+            (left, right), (top, bottom) = [(min(side), max(side)) for side in zip(*points)]
+            rectangle = (left, top, right - left + 1, bottom - top + 1)
+    x, y, across, down = rectangle
+    off = [(numbers[k] - before[k]) % 65536 for row in range(y, y + down)
+           for k in range((row * wide + x) * channels, (row * wide + x + across) * channels)]
+    lines = second_lines(across, channels, off, which) if off else []
+    return struct.pack("<HHHHH", time, *rectangle) + b"".join(lines)
+
+
+def film_head(wide, high, channels, many):
+    return piece(b"HEAD", struct.pack("<HHBH", wide, high, channels, many))
+
+
+def second_film(wide, high, channels, sheets):
+    """The file of sheets, each a time and its numbers, told from DOC.md a second time."""
+    told = film_head(wide, high, channels, len(sheets))
+    for (time, numbers), (_, before) in zip(sheets, [(0, None)] + sheets):
+        full = full_of(time, wide, channels, numbers)
+        part = part_of(time, wide, channels, numbers, before) if before is not None else full
+        told += piece(b"PART", part) if len(part) < len(full) else piece(b"FULL", full)
+    return told + DONE
+
+
+def second_read_sheet(data, wide, high, channels):
+    """The numbers of the lines that data has, and what's behind them; None if that can't be."""
+    rows = [[0] * (wide * channels)]
+    for _ in range(high):
+        told = second_read_line(data, rows[-1], channels)
+        if told is None:
+            return None
+        rows.append(told[0])
+        data = told[1]
+    return sum(rows[1:], []), data
+
+
+def second_read_frame(letters, content, wide, high, channels, before):
+    """The numbers of a FULL or a PART; None if it is wrong."""
+    if letters == b"FULL" and len(content) >= 2:
+        told = second_read_sheet(content[2:], wide, high, channels)
+        return told[0] if told and not told[1] else None
+    if letters != b"PART" or before is None or len(content) < 10:
+        return None
+    x, y, across, down = struct.unpack("<HHHH", content[2:10])
+    if (x, y, across, down) == (0, 0, 0, 0):
+        return before if len(content) == 10 else None
+    if across < 1 or down < 1 or x + across > wide or y + down > high:
+        return None
+    told = second_read_sheet(content[10:], across, down, channels)
+    if not told or told[1]:
+        return None
+    numbers = list(before)
+    for k, off in enumerate(told[0]):
+        row, rest = divmod(k, across * channels)
+        place = ((y + row) * wide + x) * channels + rest
+        numbers[place] = (numbers[place] + off) % 65536
+    return numbers
+
+
+def second_unfilm(k, data):
+    """The k-th sheet of a file, read from DOC.md a second time: cut into pieces first."""
+    pieces = cut(data) + [None, None]
+    if pieces[0] is None or pieces[0][0] != b"HEAD" or len(pieces[0][1]) != 7:
+        return [-100]
+    wide, high, channels, many = struct.unpack("<HHBH", pieces[0][1])
+    fits = is_size(wide, high) and 1 <= channels <= 4 and 1 <= many <= 64 and wide * high * channels * many <= 262144
+    if not fits:
+        return [-100]
+    sheets = []
+    for place in range(1, many + 1):
+        before = sheets[-1][-1] if sheets else None
+        told = pieces[place] and second_read_frame(*pieces[place], wide, high, channels, before)
+        if not told:
+            return [-100 - place]
+        sheets.append((struct.unpack("<H", pieces[place][1][:2])[0], told))
+    if pieces[many + 1] != (b"DONE", b""):
+        return [-101 - many]
+    if len(pieces) != many + 4:
+        return [-102 - many]
+    if k >= many:
+        return [-5]
+    return [0, sheets[k][0], wide, high, channels] + sheets[k][1]
+
+
+def second_differences(order, samples):
+    """The differences of an order, by how often each sample before counts."""
+    counts = [[1], [1, -1], [1, -2, 1], [1, -3, 3, -1]][order]
+    return [wrapped(sum(count * samples[k - back] for back, count in enumerate(counts) if k >= back))
+            for k in range(len(samples))]
+
+
+def sound_part(samples, order=None):
+    """What stands in a piece PART of a sound, of the best order or of another one."""
+    tried = [second_differences(k, samples) for k in range(4)]
+    if order is None:
+        order = min(range(4), key=lambda k: (sum(map(abs, tried[k])), k))
+    return bytes([order]) + second_kept(tried[order])
+
+
+def sound_head(rate, many):
+    return piece(b"HEAD", struct.pack("<I", rate) + struct.pack("<I", many)[:3])
+
+
+def second_sound(rate, samples, orders=None):
+    """The file of a row, told from DOC.md a second time; orders may tell the order of each piece."""
+    told = sound_head(rate, len(samples))
+    for k, start in enumerate(range(0, len(samples), 4096)):
+        told += piece(b"PART", sound_part(samples[start:start + 4096], orders[k] if orders else None))
+    return told + DONE

@@ -25,6 +25,9 @@ CALLS = {
     "untable": ["given"],
     "still": ["wide", "high", "channels", "numbers"],
     "unstill": ["given"],
+    "film": ["wide", "high", "channels", "sheets"],
+    "unfilm": ["k", "given"],
+    "sound": ["rate", "samples"],
 }
 OWN_NAMES = """len range enumerate zip min max sum abs sorted reversed int str bool list tuple dict set frozenset
     isinstance ord repr any all divmod Exception ValueError TypeError KeyError IndexError LookupError
@@ -69,6 +72,9 @@ class Interface(unittest.TestCase):
         self.assertEqual(desk.untable(given=[]), [-4])
         self.assertEqual(desk.still(wide=1, high=1, channels=1, numbers=[0])[0], 43)
         self.assertEqual(desk.unstill(given=[]), [-100])
+        self.assertEqual(desk.film(wide=1, high=1, channels=1, sheets=[[0], [0]])[0], 47)
+        self.assertEqual(desk.unfilm(k=0, given=[]), [-100])
+        self.assertEqual(desk.sound(rate=1, samples=[0])[0], 45)
 
     def test_nothing_but_the_package_is_imported(self):
         script = ("import sys; before = set(sys.modules); from shownback import desk; desk.unblocks([27]); "

@@ -1,0 +1,33 @@
+"""Rows in files: samples by how they differ from those before."""
+
+from shownback.kept import signed, tell_best
+from shownback.pieces import low_bytes, tell_last_piece, tell_piece
+
+SAMPLES_OF_A_PART = 4096
+ORDERS = 4
+
+
+def differences(numbers):
+    """Each number less the one before it; before the first there is 0."""
+    before = 0
+    told = []
+    for number in numbers:
+        told.append(signed(number - before))
+        before = number
+    return told
+
+
+def tell_part(samples):
+    """The bytes of samples: the best order, then the differences of that order kept."""
+    tried = [samples]
+    while len(tried) < ORDERS:
+        tried.append(differences(tried[-1]))
+    return tell_best(tried)
+
+
+def tell_sound(rate, samples):
+    """The file of a row."""
+    told = tell_piece("HEAD", low_bytes(rate, 4) + low_bytes(len(samples), 3))
+    for start in range(0, len(samples), SAMPLES_OF_A_PART):
+        told.extend(tell_piece("PART", tell_part(samples[start:start + SAMPLES_OF_A_PART])))
+    return told + tell_last_piece()
