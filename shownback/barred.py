@@ -2,10 +2,9 @@
 
 from shownback.answers import NoSuchText
 from shownback.bounds import is_room_for_bars
-from shownback.reading import LINE_FEED, read_lines
+from shownback.reading import LINE_FEED, read_cells
 
-BLANK = 32
-NO_BAR = (BLANK,)
+NO_BAR = (32,)
 BAR_HEAD = (0xE2, 0x96)
 
 
@@ -59,7 +58,7 @@ def read_height(cells):
 
 def read_bars(text):
     """How many columns and lines a text of bars has, and how high the columns are."""
-    lines = read_lines(text, read_cell)
+    lines = read_cells(text, read_cell)
     columns = len(lines[0])
     if not is_room_for_bars(columns, len(lines)):
         raise NoSuchText()

@@ -2,6 +2,8 @@
 
 from shownback.doubles import is_finite
 
+MOST_OF_16_BITS = 65535
+MOST_OF_32_BITS = 4294967295
 MOST_BYTES = 2097152
 MOST_BYTES_OF_A_NUMBER = 64
 MOST_BYTES_OF_A_TABLE = 65536
@@ -26,8 +28,8 @@ def all_within(numbers, least, most):
     return True
 
 
-def is_text(given, most=MOST_BYTES):
-    """Whether these are bytes, and no more of them than may be handed over."""
+def is_text(given, most):
+    """Whether these are bytes, and no more than so many."""
     return len(given) <= most and all_within(given, 0, 255)
 
 
@@ -45,7 +47,7 @@ def is_sheet(wide, high, channels, numbers):
     """Whether these make a sheet."""
     if not is_shape(wide, high, channels):
         return False
-    return len(numbers) == wide * high * channels and all_within(numbers, 0, 65535)
+    return len(numbers) == wide * high * channels and all_within(numbers, 0, MOST_OF_16_BITS)
 
 
 def is_film_shape(wide, high, channels, many):
@@ -60,7 +62,7 @@ def is_film(wide, high, channels, times, sheets):
     if len(times) != len(sheets) or not is_film_shape(wide, high, channels, len(sheets)):
         return False
     for time in times:
-        if len(time) != 1 or not all_within(time, 0, 65535):
+        if len(time) != 1 or not all_within(time, 0, MOST_OF_16_BITS):
             return False
     for numbers in sheets:
         if not is_sheet(wide, high, channels, numbers):

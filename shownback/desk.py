@@ -4,6 +4,7 @@ from shownback.answers import NO_SUCH_SHEET, NO_SUCH_TEXT, OUT_OF_RANGE, TOO_GRE
 from shownback.answers import NoSuchSheet, NoSuchText, TooGreat, WrongPiece, counted
 from shownback.barred import read_bars, tell_bars
 from shownback.bounds import MOST_BYTES, MOST_BYTES_OF_A_NUMBER, MOST_BYTES_OF_A_TABLE
+from shownback.bounds import MOST_OF_16_BITS, MOST_OF_32_BITS
 from shownback.bounds import all_within, are_names, are_table_lines
 from shownback.bounds import is_film, is_room_for_bars, is_row, is_sheet, is_text
 from shownback.decimals import read_decimal, tell_decimal
@@ -12,12 +13,13 @@ from shownback.doubles import is_finite
 from shownback.films import read_film, tell_film
 from shownback.halves import read_blocks, tell_blocks
 from shownback.pieces import PieceReader
-from shownback.sounds import tell_sound
+from shownback.sounds import read_sound, tell_sound
 from shownback.stills import read_still, tell_still
+from shownback.sums import joined_sum, sum_of_bytes
 from shownback.tabled import read_table, tell_table
 
 
-def read_back(given, read, most=MOST_BYTES):
+def read_back(given, read, most):
     """What a text of so many bytes at most tells, which read reads."""
     if not is_text(given, most):
         return [OUT_OF_RANGE]
@@ -30,7 +32,7 @@ def read_back(given, read, most=MOST_BYTES):
 
 def read_file(given, read):
     """What a file tells, which read reads piece by piece."""
-    if not is_text(given):
+    if not is_text(given, MOST_BYTES):
         return [OUT_OF_RANGE]
     reader = PieceReader(given)
     try:
@@ -50,7 +52,7 @@ def blocks(wide, high, channels, red, green, blue, numbers):
 
 def unblocks(given):
     """The sheet of three channels that a text of blocks shows."""
-    return read_back(given, read_blocks)
+    return read_back(given, read_blocks, MOST_BYTES)
 
 
 def dots(wide, high, channels, turned, numbers):
@@ -62,7 +64,7 @@ def dots(wide, high, channels, turned, numbers):
 
 def undots(given):
     """The points that a text of dots shows: how many columns and lines, then 1 or 0 for each."""
-    return read_back(given, read_dots)
+    return read_back(given, read_dots, MOST_BYTES)
 
 
 def bars(rate, columns, lines, samples):
@@ -74,7 +76,7 @@ def bars(rate, columns, lines, samples):
 
 def unbars(given):
     """How many columns and lines a text of bars has, then how high the columns are."""
-    return read_back(given, read_bars)
+    return read_back(given, read_bars, MOST_BYTES)
 
 
 def decimal(number):
@@ -134,7 +136,7 @@ def film(wide, high, channels, sheets):
 
 def unfilm(k, given):
     """The k-th sheet of a film in a file: time, wide, high, channels, then its numbers."""
-    if k > 65535:
+    if k > MOST_OF_16_BITS:
         return [OUT_OF_RANGE]
     try:
         answer = read_file(given, lambda reader: read_film(reader, k))
@@ -148,3 +150,22 @@ def sound(rate, samples):
     if not is_row(rate, samples):
         return [OUT_OF_RANGE]
     return counted(tell_sound(rate, samples))
+
+
+def unsound(given):
+    """The row in a file: rate, how many samples, then they."""
+    return read_file(given, read_sound)
+
+
+def sum_of(given):
+    """The sum of bytes."""
+    if not is_text(given, MOST_BYTES):
+        return [OUT_OF_RANGE]
+    return [0, sum_of_bytes(given)]
+
+
+def joined(one, other, length):
+    """The sum of two texts, one behind the other, by their sums and the second one's length."""
+    if not all_within([one, other, length], 0, MOST_OF_32_BITS):
+        return [OUT_OF_RANGE]
+    return [0, joined_sum(one, other, length)]

@@ -2,7 +2,7 @@
 
 from shownback.answers import NoSuchText
 from shownback.bounds import is_size
-from shownback.reading import LINE_FEED, read_lines
+from shownback.reading import LINE_FEED, read_cells
 
 STEPS = ((0, 8, 2, 10), (12, 4, 14, 6), (3, 11, 1, 9), (15, 7, 13, 5))
 WORTHS = ((1, 8), (2, 16), (4, 32), (64, 128))
@@ -55,7 +55,7 @@ def read_cell(reader):
 
 def read_dots(text):
     """How many columns and lines of points a text of dots shows, and for each point 1 if it is on, else 0."""
-    lines = read_lines(text, read_cell)
+    lines = read_cells(text, read_cell)
     wide = 2 * len(lines[0])
     high = 4 * len(lines)
     if not is_size(wide, high):

@@ -3,7 +3,7 @@
 from shownback.answers import NoSuchText
 
 LINE_FEED = 10
-LINE_END = (LINE_FEED,)
+LINE_END = (10,)
 
 
 def bytes_of(words):
@@ -63,7 +63,7 @@ class Reader:
         return value
 
 
-def read_lines(text, read_cell):
+def read_cells(text, read_cell):
     """The lines of cells of a text, one at least and all of one width; read_cell goes past a cell and tells it."""
     reader = Reader(text)
     lines = []

@@ -1,7 +1,10 @@
-"""The sum of bytes, CRC-32C: a remainder of polynomials over bits, the highest power in the lowest bit."""
+"""The sum of bytes, CRC-32C: a rest of polynomials over bits, the lowest power of x in the highest bit."""
 
 ALL_ONES = 0xFFFFFFFF
-# What eight steps of the division by 0x82F63B78 make of each byte.
+DIVISOR = 0x82F63B78
+# The polynomial x^8.
+ONE_BYTE = 0x00800000
+# What eight steps of the division make of each byte.
 STEPS = (
     0x00000000, 0xF26B8303, 0xE13B70F7, 0x1350F3F4, 0xC79A971F, 0x35F1141C, 0x26A1E7E8, 0xD4CA64EB,
     0x8AD958CF, 0x78B2DBCC, 0x6BE22838, 0x9989AB3B, 0x4D43CFD0, 0xBF284CD3, 0xAC78BF27, 0x5E133C24,
@@ -44,3 +47,26 @@ def sum_of_bytes(given):
     for byte in given:
         rest = STEPS[(rest ^ byte) & 255] ^ (rest >> 8)
     return rest ^ ALL_ONES
+
+
+def times(one, other):
+    """The rest of the product of two polynomials."""
+    product = 0
+    for k in range(31, -1, -1):
+        if (one >> k) % 2 == 1:
+            product ^= other
+        other = (other >> 1) ^ (DIVISOR if other % 2 == 1 else 0)
+    return product
+
+
+def joined_sum(one, other, length):
+    """The sum of a first text and a second one behind it, by their sums and the second one's length."""
+    moved = one
+    square = ONE_BYTE
+    # The first text's sum is moved up by a byte as often as the second one has bytes.
+    while length > 0:
+        if length % 2 == 1:
+            moved = times(moved, square)
+        square = times(square, square)
+        length //= 2
+    return moved ^ other

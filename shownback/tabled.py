@@ -7,7 +7,7 @@ from shownback.reading import LINE_FEED
 
 BLANK = 32
 DASH = 45
-BETWEEN = (BLANK, BLANK)
+BETWEEN = (32, 32)
 
 
 def at_the_right(words):

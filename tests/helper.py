@@ -464,3 +464,56 @@ def second_sound(rate, samples, orders=None):
     for k, start in enumerate(range(0, len(samples), 4096)):
         told += piece(b"PART", sound_part(samples[start:start + 4096], orders[k] if orders else None))
     return told + DONE
+
+
+def second_unsound(data):
+    """The row of a file, read from DOC.md a second time: cut into pieces first."""
+    pieces = cut(data) + [None, None]
+    if pieces[0] is None or pieces[0][0] != b"HEAD" or len(pieces[0][1]) != 7:
+        return [-100]
+    rate, many = struct.unpack("<II", pieces[0][1] + b"\0")
+    if not 1 <= rate <= 1000000 or not 1 <= many <= 65536:
+        return [-100]
+    samples, last = [], (many + 4095) // 4096
+    for place in range(1, last + 1):
+        letters, content = pieces[place] or (b"", b"")
+        told = None
+        if letters == b"PART" and content and content[0] < 4:
+            told = read_kept_loosely(content[1:], min(4096, many - len(samples)))
+        if told is None or told[1]:
+            return [-100 - place]
+        row = told[0]
+        for _ in range(content[0]):
+            row = list(itertools.accumulate(row))
+        samples += [wrapped(sample) for sample in row]
+    if pieces[last + 1] != (b"DONE", b""):
+        return [-101 - last]
+    if len(pieces) != last + 4:
+        return [-102 - last]
+    return [0, rate, many] + samples
+
+
+def turned_round(number):
+    return int(f"{number:032b}"[::-1], 2)
+
+
+def second_joined(one, other, length):
+    """The joined sum a second time: x to the power of eight times the length, the highest power foremost."""
+    def rest(number):
+        while number.bit_length() > 32:
+            number ^= 0x11EDC6F41 << (number.bit_length() - 33)
+        return number
+
+    def product(first, second):
+        total = 0
+        for bit in range(second.bit_length()):
+            if second >> bit & 1:
+                total ^= first << bit
+        return rest(total)
+
+    power = 1
+    for bit in f"{8 * length:b}":
+        power = product(power, power)
+        if bit == "1":
+            power = rest(power << 1)
+    return turned_round(product(turned_round(one), power)) ^ other

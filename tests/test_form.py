@@ -28,6 +28,9 @@ CALLS = {
     "film": ["wide", "high", "channels", "sheets"],
     "unfilm": ["k", "given"],
     "sound": ["rate", "samples"],
+    "unsound": ["given"],
+    "sum_of": ["given"],
+    "joined": ["one", "other", "length"],
 }
 OWN_NAMES = """len range enumerate zip min max sum abs sorted reversed int str bool list tuple dict set frozenset
     isinstance ord repr any all divmod Exception ValueError TypeError KeyError IndexError LookupError
@@ -75,6 +78,9 @@ class Interface(unittest.TestCase):
         self.assertEqual(desk.film(wide=1, high=1, channels=1, sheets=[[0], [0]])[0], 47)
         self.assertEqual(desk.unfilm(k=0, given=[]), [-100])
         self.assertEqual(desk.sound(rate=1, samples=[0])[0], 45)
+        self.assertEqual(desk.unsound(given=[]), [-100])
+        self.assertEqual(desk.sum_of(given=[]), [0, 0])
+        self.assertEqual(desk.joined(one=1, other=2, length=0), [0, 3])
 
     def test_nothing_but_the_package_is_imported(self):
         script = ("import sys; before = set(sys.modules); from shownback import desk; desk.unblocks([27]); "
@@ -99,6 +105,7 @@ class Form(unittest.TestCase):
             self.assertLessEqual(max(len(line) for line in text.splitlines()), 120, path)
             for node in nodes(path):
                 if isinstance(node, ast.FunctionDef):
+                    self.assertEqual([value for value in node.args.defaults if not isinstance(value, ast.Constant)], [])
                     self.assertLessEqual(node.end_lineno - node.lineno + 1, 40, f"{path} {node.name}")
 
     def test_statements_and_expressions(self):
@@ -142,7 +149,7 @@ class Form(unittest.TestCase):
                 where = f"{path.name}:{node.lineno}"
                 self.assertIsInstance(node, (ast.Expr, ast.ImportFrom, ast.Assign, ast.FunctionDef, ast.ClassDef), where)
                 if isinstance(node, ast.Assign):
-                    plain = (ast.Constant, ast.Tuple, ast.UnaryOp, ast.USub, ast.Name, ast.Load)
+                    plain = (ast.Constant, ast.Tuple, ast.UnaryOp, ast.USub, ast.Load)
                     self.assertTrue(all(isinstance(part, plain) for part in ast.walk(node.value)), where)
                     bound.append(node.targets[0].id)
                 elif isinstance(node, ast.ImportFrom):
