@@ -517,3 +517,76 @@ def second_joined(one, other, length):
         if bit == "1":
             power = rest(power << 1)
     return turned_round(product(turned_round(one), power)) ^ other
+
+
+class SpoiledFiles:
+    """What tests of all kinds of files share. Beside it stands a TestCase that sets data, a file that is right."""
+
+    def reads(self, data):
+        """The answers of the call, which should all be the same for a file that is wrong."""
+        raise NotImplementedError
+
+    def set_data(self, data):
+        self.data = data
+        self.pieces = [piece(*one) for one in cut(data)]
+
+    def wrong(self, place, data):
+        with self.subTest(place=place, data=data[:100]):
+            for answer in self.reads(data):
+                self.assertEqual(answer, [-100 - place])
+
+    def instead(self, place, other):
+        """The file with something else in the place of a piece."""
+        return b"".join(self.pieces[:place] + [other] + self.pieces[place + 1:])
+
+    def test_nothing_at_all(self):
+        self.wrong(0, b"")
+
+    def test_cut_off_at_every_byte(self):
+        ends = list(itertools.accumulate([0] + [len(one) for one in self.pieces]))
+        for many in range(len(self.data)):
+            self.wrong(max(k for k, end in enumerate(ends) if end <= many), self.data[:many])
+
+    def test_every_byte_spoiled(self):
+        for place, one in enumerate(self.pieces):
+            for k in range(len(one)):
+                for other in (one[k] ^ 1, one[k] ^ 16, 255 - one[k]):
+                    self.wrong(place, self.instead(place, one[:k] + bytes([other]) + one[k + 1:]))
+
+    def test_too_long_for_what_is_there(self):
+        for place, one in enumerate(self.pieces):
+            for length in (1000, 65536, 2 ** 31, 2 ** 32 - 1):
+                self.wrong(place, self.instead(place, one[:4] + struct.pack("<I", length) + one[8:]))
+
+    def test_a_wrong_sum(self):
+        for place, one in enumerate(self.pieces):
+            self.wrong(place, self.instead(place, one[:-4] + b"\0\0\0\0"))
+            self.wrong(place, self.instead(place, one[:-4] + one[-4:][::-1]))
+
+    def test_wrong_letters(self):
+        for place, one in enumerate(self.pieces):
+            right, content = cut(one)[0]
+            for letters in (b"HEAD", b"LINE", b"FULL", b"PART", b"DONE", b"head", b"HEAL", b"DON\0", b"\0\0\0\0"):
+                if letters != right:
+                    self.wrong(place, self.instead(place, piece(letters, content)))
+
+    def test_something_in_done(self):
+        for content in (b"\0", b"DONE", b"\1\2\3"):
+            self.wrong(len(self.pieces) - 1, b"".join(self.pieces[:-1]) + piece(b"DONE", content))
+
+    def test_something_behind_done(self):
+        for more in (b"\0", b"\n", b"DONE", b"\0" * 12, DONE, self.pieces[1], self.data):
+            self.wrong(len(self.pieces), self.data + more)
+
+    def test_done_that_lacks(self):
+        self.wrong(len(self.pieces) - 1, b"".join(self.pieces[:-1]))
+
+    def test_the_first_of_several(self):
+        spoiled = [one[:-1] + bytes([one[-1] ^ 1]) for one in self.pieces]
+        for first in range(len(self.pieces)):
+            self.wrong(first, b"".join(self.pieces[:first] + spoiled[first:]))
+            self.wrong(first, b"".join(self.pieces[:first] + spoiled[first:]) + b"more")
+
+    def test_files_of_nothing_but_noughts(self):
+        self.wrong(0, b"\0" * 100000)
+        self.wrong(0, b"\0" * 2097152)

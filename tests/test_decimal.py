@@ -42,7 +42,8 @@ class Forms(unittest.TestCase):
 
     def test_digits_and_zeros_past_seventeen_places(self):
         for number, wanted in ((1e17, "1e17"), (1.2e17, "1.2e17"), (123456789012345680.0, "1.2345678901234568e17"),
-                               (1e18, "1e18"), (1e22, "1e22"), (1e23, "1e23"), (5e100, "5e100"), (1.25e300, "1.25e300")):
+                               (1e18, "1e18"), (1e22, "1e22"), (1e23, "1e23"), (5e100, "5e100"),
+                               (1.25e300, "1.25e300")):
             self.holds(number, wanted)
 
     def test_nought_and_a_point(self):
@@ -139,7 +140,8 @@ class Held(unittest.TestCase):
 
 class Refused(unittest.TestCase):
     def test_what_is_no_finite_number(self):
-        for bits in (INFINITE, INFINITE + 1, INFINITE + (1 << 51), SIGN - 1, SIGN + INFINITE, SIGN + INFINITE + 1, OVER):
+        for bits in (INFINITE, INFINITE + 1, INFINITE + (1 << 51), SIGN - 1, SIGN + INFINITE, SIGN + INFINITE + 1,
+                     OVER):
             self.assertEqual(called(desk.decimal, bits), [-8])
         self.assertEqual(desk.decimal(INFINITE - 1)[0], 22)
 

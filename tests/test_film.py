@@ -237,6 +237,8 @@ class Refused(unittest.TestCase):
 
     def test_too_many_numbers_together(self):
         self.refuses(64, 65, 1, [[0], [0] * 4160] * 64)
+        # Just one too many.
+        self.refuses(185, 109, 1, [[0], [0] * (185 * 109)] * 13)
         self.refuses(256, 256, 1, [[0], [0] * 65536] * 5)
         self.refuses(1024, 64, 4, [[0], [0] * 262144] * 2)
         self.refuses(1, 1024, 4, [[0], [0] * 4096] * 65)

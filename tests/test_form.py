@@ -147,7 +147,8 @@ class Form(unittest.TestCase):
             bound = []
             for node in ast.parse(path.read_text()).body:
                 where = f"{path.name}:{node.lineno}"
-                self.assertIsInstance(node, (ast.Expr, ast.ImportFrom, ast.Assign, ast.FunctionDef, ast.ClassDef), where)
+                self.assertIsInstance(node, (ast.Expr, ast.ImportFrom, ast.Assign, ast.FunctionDef, ast.ClassDef),
+                                      where)
                 if isinstance(node, ast.Assign):
                     plain = (ast.Constant, ast.Tuple, ast.UnaryOp, ast.USub, ast.Load)
                     self.assertTrue(all(isinstance(part, plain) for part in ast.walk(node.value)), where)

@@ -33,7 +33,8 @@ class Files(unittest.TestCase):
 
     def test_the_head(self):
         for rate, many, content in ((1, 1, [1, 0, 0, 0, 1, 0, 0]), (44100, 300, [68, 172, 0, 0, 44, 1, 0]),
-                                    (1000000, 65536, [64, 66, 15, 0, 0, 0, 1]), (65536, 65535, [0, 0, 1, 0, 255, 255, 0])):
+                                    (1000000, 65536, [64, 66, 15, 0, 0, 0, 1]),
+                                    (65536, 65535, [0, 0, 1, 0, 255, 255, 0])):
             self.assertEqual(cut(told(rate, [0] * many))[0], (b"HEAD", bytes(content)))
 
     def test_how_many_pieces(self):

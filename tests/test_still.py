@@ -175,7 +175,8 @@ class Longest(unittest.TestCase):
 
     def test_the_greatest_sheets(self):
         data = told(1024, 64, 4, [0] * 262144)
-        self.assertEqual(data, piece(b"HEAD", bytes([0, 4, 64, 0, 4])) + piece(b"LINE", b"\0" + b"\x3f" * 64) * 64 + DONE)
+        lines = piece(b"LINE", b"\0" + b"\x3f" * 64) * 64
+        self.assertEqual(data, piece(b"HEAD", bytes([0, 4, 64, 0, 4])) + lines + DONE)
         data = told(64, 1024, 1, [0] * 65536)
         self.assertEqual(data, piece(b"HEAD", bytes([64, 0, 0, 4, 1])) + piece(b"LINE", b"\0\x3f") * 1024 + DONE)
 

@@ -45,7 +45,8 @@ class ReadBack(unittest.TestCase):
             self.assertEqual(read(stacked(heights, lines)), [0, len(heights), lines] + heights)
 
     def test_what_bars_tells(self):
-        for seed, (many, columns, lines) in enumerate([(1, 1, 1), (9, 9, 1), (100, 7, 5), (512, 512, 64), (600, 3, 64)]):
+        for seed, (many, columns, lines) in enumerate([(1, 1, 1), (9, 9, 1), (100, 7, 5), (512, 512, 64),
+                                                       (600, 3, 64)]):
             for most in (32767, 2000, 1):
                 samples = some_samples(seed, many, most)
                 text = text_of(desk.bars(1, columns, lines, samples))

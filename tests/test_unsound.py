@@ -1,10 +1,10 @@
 """Point 16 of DOC.md: unsound."""
 
 import random
-import struct
 import unittest
 
-from helper import DONE, called, cut, piece, second_sound, second_unsound, some_samples, sound_head, text_of
+from helper import DONE, SpoiledFiles, called, cut, piece, second_sound, second_unsound, some_samples, sound_head
+from helper import text_of
 from shownback import desk
 
 MOST = 2097152
@@ -69,50 +69,18 @@ class ReadBack(unittest.TestCase):
         self.assertEqual(read(text_of(desk.sound(44100, samples))), [0, 44100, 65536] + samples)
 
 
-class WrongPieces(unittest.TestCase):
+class WrongPieces(SpoiledFiles, unittest.TestCase):
+    def reads(self, data):
+        return [read(data)]
+
     def setUp(self):
-        self.data = sound_head(8000, 8195) + part(0, *[63] * 64) + part(1, 65, *[63] * 63, 62) + part(2, 65, 128, 9, 0) + DONE
-        self.pieces = [piece(*one) for one in cut(self.data)]
+        data = sound_head(8000, 8195) + part(0, *[63] * 64) + part(1, 65, *[63] * 63, 62)
+        self.set_data(data + part(2, 65, 128, 9, 0) + DONE)
         self.assertEqual(read(self.data), [0, 8000, 8195] + [0] * 4096 + [1] * 4096 + [1, 39, 77])
 
-    def wrong(self, place, data):
-        with self.subTest(place=place, data=data[:100]):
-            self.assertEqual(read(data), [-100 - place])
-
-    def instead(self, place, other):
-        return b"".join(self.pieces[:place] + [other] + self.pieces[place + 1:])
-
-    def test_nothing_at_all(self):
-        self.wrong(0, b"")
-
-    def test_cut_off_at_every_byte(self):
-        ends = [0]
-        for one in self.pieces:
-            ends.append(ends[-1] + len(one))
-        for many in range(len(self.data)):
-            self.wrong(max(k for k, end in enumerate(ends) if end <= many), self.data[:many])
-
-    def test_every_byte_spoiled(self):
-        at = 0
-        for place, one in enumerate(self.pieces):
-            for k in range(len(one)):
-                self.wrong(place, self.data[:at + k] + bytes([one[k] ^ 16]) + self.data[at + k + 1:])
-            at += len(one)
-
-    def test_too_long_for_what_is_there(self):
-        for length in (1000, 65536, 2 ** 32 - 1):
-            for place in range(5):
-                one = self.pieces[place]
-                self.wrong(place, self.instead(place, one[:4] + struct.pack("<I", length) + one[8:]))
-
-    def test_wrong_letters(self):
-        for letters in (b"HEAD", b"PART", b"DONE", b"FULL", b"LINE", b"part", b"\0\0\0\0"):
-            for place, right in enumerate([b"HEAD", b"PART", b"PART", b"PART", b"DONE"]):
-                if letters != right:
-                    self.wrong(place, self.instead(place, piece(letters, cut(self.pieces[place])[0][1])))
-
     def test_the_head(self):
-        for rate, many in ((0, 8195), (1000001, 8195), (2 ** 32 - 1, 8195), (8000, 0), (8000, 65537), (8000, 2 ** 24 - 1)):
+        for rate, many in ((0, 8195), (1000001, 8195), (2 ** 32 - 1, 8195), (8000, 0), (8000, 65537),
+                           (8000, 2 ** 24 - 1)):
             self.wrong(0, self.instead(0, sound_head(rate, many)))
         right = cut(self.pieces[0])[0][1]
         for content in (b"", right[:4], right[:-1], right + b"\0", right * 2):
@@ -133,7 +101,8 @@ class WrongPieces(unittest.TestCase):
         self.wrong(1, self.instead(1, part(0, *[31] * 128)))
 
     def test_too_few_or_too_many_numbers(self):
-        for kept in ((), (1,), (3,), (65, 65), (65, 65, 65, 65), (2, 0), (2, 65), (65, 2), (1, 128), (1, 192), (1, 192, 255),
+        for kept in ((), (1,), (3,), (65, 65), (65, 65, 65, 65), (2, 0), (2, 65), (65, 2), (1, 128), (1, 192),
+                     (1, 192, 255),
                      (63,), (65, 65, 65, 0)):
             self.wrong(3, self.instead(3, part(0, *kept)))
         self.wrong(3, self.instead(3, part()))
@@ -157,17 +126,6 @@ class WrongPieces(unittest.TestCase):
         self.wrong(2, sound_head(1, 4096) + self.pieces[1] * 2 + DONE)
         self.wrong(0, b"".join(self.pieces[1:]))
 
-    def test_something_in_done_and_behind_it(self):
-        for content in (b"\0", b"DONE"):
-            self.wrong(4, self.instead(4, piece(b"DONE", content)))
-        for more in (b"\0", b"\n", DONE, self.pieces[1], self.data):
-            self.wrong(5, self.data + more)
-
-    def test_the_first_of_several(self):
-        spoiled = [one[:-1] + bytes([one[-1] ^ 1]) for one in self.pieces]
-        for first in range(5):
-            self.wrong(first, b"".join(self.pieces[:first] + spoiled[first:]) + b"more")
-
     def test_other_files(self):
         self.wrong(0, text_of(desk.still(3, 2, 1, [0] * 6)))
         film = text_of(desk.film(64, 31, 1, [[0], [0] * 1984]))
@@ -175,8 +133,6 @@ class WrongPieces(unittest.TestCase):
         self.assertLess(desk.unstill(list(self.data))[0], -99)
 
     def test_the_longest_files(self):
-        self.wrong(0, b"\0" * 100000)
-        self.wrong(0, b"\0" * MOST)
         self.wrong(1, sound_head(1, 65536) + piece(b"PART", b"\0" * 99000))
 
 
@@ -186,7 +142,7 @@ class Held(unittest.TestCase):
         answers = {}
         for seed in range(1500):
             many = chance.choice([1, 2, 5, 70, 4097])
-            samples = some_samples(seed, many, 0) if many > 4096 else some_samples(seed, many, chance.choice([0, 9, 32767]))
+            samples = some_samples(seed, many, 0 if many > 4096 else chance.choice([0, 9, 32767]))
             orders = chance.choice([None, [chance.randrange(4), chance.randrange(4)]])
             pieces = [list(one) for one in cut(second_sound(seed + 1, samples, orders))]
             for _ in range(chance.randrange(3)):

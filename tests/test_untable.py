@@ -117,14 +117,16 @@ class NoTable(unittest.TestCase):
             self.refuses(more + text)
 
     def test_line_feeds(self):
-        for text in (b"\n", b"\n\n", b"\n\n\n", b"a\n", b"a\n\n", b"a\n-", b"a\n-\n\n", b"a\n\n-\n", b"\na\n-\n", b"a-\n",
+        for text in (b"\n", b"\n\n", b"\n\n\n", b"a\n", b"a\n\n", b"a\n-", b"a\n-\n\n", b"a\n\n-\n", b"\na\n-\n",
+                     b"a-\n",
                      b"a\n-\n1", b"a\n-\n1\n\n", b"a\n-\n\n1\n", b"a\r\n-\r\n", b"a\n-1\n"):
             self.refuses(text)
 
     def test_blanks(self):
         for text in (b"a b\n---\n", b"a   b\n-----\n", b" a\n--\n", b"a \n--\n", b"a  b \n-----\n", b" a  b\n-----\n",
                      b"a  b\n----\n1 2\n", b"a  b\n----\n1   2\n", b"a  b\n----\n 1  2\n", b"a  b\n----\n1  2 \n",
-                     b"ab\n--\n1 \n", b"ab\n--\n1\n", b"ab\n--\n  1\n", b"a\n-\n \n", b" \n-\n", b"\t\n-\n", b"a\tb\n---\n"):
+                     b"ab\n--\n1 \n", b"ab\n--\n1\n", b"ab\n--\n  1\n", b"a\n-\n \n", b" \n-\n", b"\t\n-\n",
+                     b"a\tb\n---\n"):
             self.refuses(text)
 
     def test_names_and_numbers_at_the_left(self):
@@ -193,7 +195,8 @@ class Held(unittest.TestCase):
             text = second_table(names, lines)
             for _ in range(chance.randrange(3)):
                 at = chance.randrange(len(text) + 1)
-                more = chance.choice([b"", b" ", b"\n", b"-", b"1", b"0", b"a", b".", b"  ", bytes([chance.randrange(256)])])
+                more = chance.choice([b"", b" ", b"\n", b"-", b"1", b"0", b"a", b".", b"  ",
+                                      bytes([chance.randrange(256)])])
                 text = text[:at] + more + text[at + chance.choice([0, 0, 1, 2]):]
             answer = desk.untable(list(text))
             self.assertEqual(answer == [-4], not self.is_table(text), text)

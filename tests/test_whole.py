@@ -1,12 +1,12 @@
-"""The whole program: each of the eighteen calls at the edges of what may be handed in, and all that's shown read back."""
+"""The whole program: each of the eighteen calls at the edges of what may be handed in, and what's shown read back."""
 
 import inspect
 import itertools
 import random
 import unittest
 
-from helper import OVER, bits_of, called, second_blocks, second_dots, second_still, second_sum, some_numbers, some_samples
-from helper import text_of
+from helper import OVER, bits_of, called, second_blocks, second_dots, second_still, second_sum, some_numbers
+from helper import some_samples, text_of
 from shownback import desk
 
 CALLS = ["blocks", "unblocks", "dots", "undots", "bars", "unbars", "decimal", "undecimal", "table", "untable", "still",
@@ -127,7 +127,8 @@ class Edges(unittest.TestCase):
 
     def test_what_reads_ends_whatever_is_handed_in(self):
         chance = random.Random(27)
-        texts = [[]] + [[byte] * many for byte in (0, 10, 27, 32, 45, 48, 72, 97, 192, 226, 255) for many in (1, 63, 65536)]
+        texts = [[]] + [[byte] * many for byte in (0, 10, 27, 32, 45, 48, 72, 97, 192, 226,
+                        255) for many in (1, 63, 65536)]
         texts += [[chance.randrange(256) for _ in range(many)] for many in (1, 5, 100, 65536)]
         for name in READING:
             for text in texts:
